@@ -1,0 +1,1 @@
+"""Two streams of rows joined by key and by time."""
