@@ -32,6 +32,7 @@ class Side:
         self.tells_at_end = tells_alone and eager == 0
         self.mark = 0
         self.taken = 0
+        self.put_aside = 0
         self.kept = []
 
     def take(self, key, time):

@@ -25,6 +25,22 @@ def right_mark(time):
     return (4, time)
 
 
+def lefts():
+    return (5,)
+
+
+def rights():
+    return (6,)
+
+
+def counts():
+    return (7,)
+
+
+def at(key, time):
+    return (8, key, time)
+
+
 def ask(*calls):
     """The answer of each call, as a list of lists."""
     numbers = answers([number for call in calls for number in call])
@@ -47,3 +63,14 @@ def last(*calls):
 def changes(*triples):
     """Changes as they are answered."""
     return [len(triples)] + [number for triple in triples for number in triple]
+
+
+def kept(*rows):
+    """Kept rows as lefts and rights answer them: of each its number, key, time, 1 or 0."""
+    return [len(rows)] + [number for row in rows for number in row]
+
+
+def numbers_kept(answer):
+    """The numbers alone of the rows that an answer of lefts or rights tells."""
+    assert len(answer) == 1 + 4 * answer[0], answer
+    return answer[1::4]

@@ -2,7 +2,8 @@
 
 import unittest
 
-from tests.calls import BIGGEST, ask, begin, changes, last, left, left_mark, right, right_mark
+from tests.calls import (BIGGEST, ask, at, begin, changes, counts, kept, last, left, left_mark, lefts, right,
+                         right_mark, rights)
 
 
 class Refusals(unittest.TestCase):
@@ -119,10 +120,28 @@ class WithoutBegin(unittest.TestCase):
                              [[1, 0], [1, 0], [0], [0]])
 
     def test_any_call_may_be_first(self):
+        self.assertEqual(ask(begin(0, 0, 0, 0)), [[0]])
         self.assertEqual(ask(left(3, 4)), [[1, 0]])
         self.assertEqual(ask(right(3, 4)), [[1, 0]])
         self.assertEqual(ask(left_mark(4), left(1, 3), right(1, 3)), [[0], [0, 0], [1, 0]])
         self.assertEqual(ask(right_mark(4), right(1, 3), left(1, 3)), [[0], [0, 0], [1, 0]])
+        self.assertEqual(ask(lefts()), [[0]])
+        self.assertEqual(ask(rights()), [[0]])
+        self.assertEqual(ask(counts()), [[0, 0, 0, 0, 0]])
+        self.assertEqual(ask(at(3, 4)), [[-4]])
+
+    def test_whichever_is_first_it_is_as_behind_that_begin(self):
+        # The windows show in who meets (5 and 15, not 16), the sort in what is not told alone.
+        behind = (left(1, 5), right(1, 16), right(1, 15), left(1, 26), lefts(), rights(), counts(), at(1, 15),
+                  right_mark(16), left_mark(26), lefts(), rights(), right_mark(1000001), left_mark(1000001))
+        firsts = (begin(3, 0, 0, 1), left(2, 0), right(2, 0), left_mark(0), right_mark(0), lefts(), rights(),
+                  counts(), at(2, 0))
+        for first in firsts:
+            self.assertEqual(ask(first, *behind), ask(begin(0, 10, 10, 0), first, *behind)[1:])
+        self.assertEqual(ask(lefts(), *behind)[1:],
+                         [[1, 0], [1, 0], [2] + changes((1, 1, 2)), [2] + changes((1, 2, 1)),
+                          kept((1, 1, 5, 1), (2, 1, 26, 1)), kept((1, 1, 16, 1), (2, 1, 15, 1)), [2, 2, 0, 0, 0], [-4],
+                          [0], [0], kept((2, 1, 26, 1)), kept((1, 1, 16, 1)), [0], [0]])
 
 
 if __name__ == "__main__":
